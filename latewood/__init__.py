@@ -1,0 +1,1 @@
+"""Latewood: pieces of runs told late by many houses."""

@@ -1,0 +1,71 @@
+"""The interface as DOC.md lists it, and what LANGUAGE.md says of files that a glance can tell."""
+
+import ast
+import importlib
+import inspect
+import os
+import unittest
+
+ROOT = os.path.dirname(os.path.dirname(os.path.abspath(__file__)))
+PACKAGE = os.path.join(ROOT, "latewood")
+
+FUNCTIONS = (
+    ("pieces", "is_piece", ["thing"]),
+    ("heaps", "cleared", ["heap"]),
+    ("heaps", "holes_of", ["heap"]),
+    ("heaps", "runs_of", ["heap"]),
+    ("heaps", "houses_of", ["heap"]),
+)
+
+
+def sources():
+    """The names and texts of the package's files."""
+    found = []
+    for name in sorted(os.listdir(PACKAGE)):
+        if name != "__pycache__":
+            with open(os.path.join(PACKAGE, name), encoding="utf-8") as file:
+                found.append((name, file.read()))
+    return found
+
+
+class Interface(unittest.TestCase):
+
+    def test_functions_stand_in_their_files(self):
+        for module, name, arguments in FUNCTIONS:
+            function = getattr(importlib.import_module(f"latewood.{module}"), name)
+            self.assertEqual(function.__module__, f"latewood.{module}")
+            self.assertEqual(list(inspect.signature(function).parameters), arguments)
+
+
+class Files(unittest.TestCase):
+
+    def test_python_files_alone(self):
+        for name, _ in sources():
+            self.assertRegex(name, r"\A[a-z_]+\.py\Z")
+        self.assertIn("__init__.py", [name for name, _ in sources()])
+
+    def test_signs_and_lengths(self):
+        for name, text in sources():
+            self.assertTrue(all(sign == "\n" or " " <= sign <= "~" for sign in text), name)
+            self.assertLess(len(text.splitlines()), 400, name)
+            for line in text.splitlines():
+                self.assertLessEqual(len(line), 120, line)
+
+    def test_functions_are_short(self):
+        for name, text in sources():
+            for node in ast.walk(ast.parse(text)):
+                if isinstance(node, ast.FunctionDef):
+                    self.assertLessEqual(node.end_lineno - node.lineno + 1, 40, (name, node.name))
+
+    def test_imports_are_from_the_package(self):
+        library = ("heapq", "math", "itertools", "collections", "__future__")
+        for name, text in sources():
+            for node in ast.walk(ast.parse(text)):
+                self.assertNotIsInstance(node, ast.Import, name)
+                if isinstance(node, ast.ImportFrom):
+                    self.assertEqual(node.level, 0)
+                    self.assertTrue(node.module in library or node.module.startswith("latewood."), name)
+
+
+if __name__ == "__main__":
+    unittest.main()
