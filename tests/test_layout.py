@@ -15,6 +15,21 @@ FUNCTIONS = (
     ("heaps", "holes_of", ["heap"]),
     ("heaps", "runs_of", ["heap"]),
     ("heaps", "houses_of", ["heap"]),
+    ("woods", "wood_of", ["heap", "run"]),
+    ("woods", "is_whole_run", ["heap", "run"]),
+    ("woods", "way_up", ["heap", "run", "number"]),
+    ("woods", "beneath", ["heap", "run", "number"]),
+    ("shifts", "ties_of", ["heap"]),
+    ("shifts", "shifts_of", ["heap"]),
+    ("shifts", "are_shifts", ["heap", "thing"]),
+    ("shifts", "is_ring", ["heap", "thing"]),
+    ("spans", "span_of", ["heap", "one", "other"]),
+    ("spans", "most_of", ["heap", "one", "other"]),
+    ("spans", "shows_most", ["heap", "one", "other", "number", "thing"]),
+    ("ways", "shifted", ["heap", "rows"]),
+    ("ways", "is_right", ["heap", "run"]),
+    ("ways", "way_of", ["heap", "run"]),
+    ("ways", "own_times", ["heap", "run"]),
 )
 
 
