@@ -56,3 +56,8 @@ def is_clash(one, other):
     if one[RUN] == other[RUN] and one[NUMBER] == other[NUMBER]:
         return True
     return one[HOUSE] == other[HOUSE] and one[COUNT] == other[COUNT]
+
+
+def held_till(piece):
+    """Tell until when its asker can't end: a piece that is not waited for needs to be asked for, no more."""
+    return piece[END] if piece[JOINED] else piece[BEGIN]

@@ -1,7 +1,7 @@
 """Shifts of the houses' clocks, or a ring of houses that shows that there are none."""
 
 from latewood.heaps import cleared, houses_of
-from latewood.pieces import ASKER, BEGIN, END, HOUSE, JOINED, NUMBER, RUN, is_whole
+from latewood.pieces import ASKER, BEGIN, END, HOUSE, NUMBER, RUN, held_till, is_whole
 
 
 def ties_of(heap):
@@ -19,11 +19,9 @@ def ties_of(heap):
 
 def ties_between(piece, asker):
     """Tell the two ties that a piece and its asker bring."""
-    # A piece that is not waited for may end when it will, but begins in its asker's time.
-    last = piece[END] if piece[JOINED] else piece[BEGIN]
     return [
         (piece[HOUSE], asker[HOUSE], piece[BEGIN] - asker[BEGIN]),
-        (asker[HOUSE], piece[HOUSE], asker[END] - last),
+        (asker[HOUSE], piece[HOUSE], asker[END] - held_till(piece)),
     ]
 
 

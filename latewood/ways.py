@@ -2,7 +2,7 @@
 
 from latewood.errors import NoShifts, NotRight
 from latewood.heaps import cleared
-from latewood.pieces import ASKER, BEGIN, END, HOUSE, JOINED, NO_ASKER
+from latewood.pieces import ASKER, BEGIN, END, HOUSE, JOINED, NO_ASKER, held_till
 from latewood.shifts import are_shifts
 from latewood.woods import is_whole_run, kids_of, pieces_of, tops_of
 
@@ -31,8 +31,7 @@ def is_right(heap, run):
 
 def lies_within(piece, asker):
     """Tell whether a piece lies within its asker, both by one clock."""
-    last = piece[END] if piece[JOINED] else piece[BEGIN]
-    return asker[BEGIN] <= piece[BEGIN] and last <= asker[END]
+    return asker[BEGIN] <= piece[BEGIN] and held_till(piece) <= asker[END]
 
 
 def way_of(heap, run):

@@ -79,6 +79,17 @@ def asking(askers, run=0):
     return [make(run, number, asker, house=run % 8, count=number) for number, asker in askers.items()]
 
 
+def piece(number, asker, begin, end, joined=True, run=0):
+    """A piece that is joined unless it is a top or it is said; the house hangs on the run, the count is the number."""
+    return make(run, number, asker, run % 8, number, begin, end, joined and asker != -1)
+
+
+def beside(run=1):
+    """A run that isn't right, with the same numbers as others, and with far counts."""
+    pieces = [piece(0, -1, 3, 4, run=run), piece(1, 0, -9, 99, run=run), piece(2, 50, 0, 7, run=run)]
+    return [one[:4] + (900 + one[4],) + one[5:] for one in pieces]
+
+
 def retold(chance, heap):
     """The heap told again: in another order, some pieces several times."""
     told = list(heap) + [chance.choice(heap) for _ in range(chance.randrange(9)) if heap]

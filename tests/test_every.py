@@ -1,10 +1,12 @@
-"""Points 2, 3 and 5, of each function of woods, shifts, spans and ways."""
+"""Points 2, 3 and 5, of each function of woods, shifts, spans, ways, anew and gaps."""
 
 import copy
 import random
 import unittest
 
+from latewood.anew import done_anew, slack_of
 from latewood.errors import Clash, WoodError
+from latewood.gaps import fills, gap_of
 from latewood.shifts import are_shifts, is_ring, shifts_of, ties_of
 from latewood.spans import most_of, shows_most, span_of
 from latewood.ways import is_right, own_times, shifted, way_of
@@ -51,6 +53,12 @@ CALLS = (
     (is_right, (9,), ("run",)),
     (way_of, (3,), ("run",)),
     (own_times, (3,), ("run",)),
+    (done_anew, (3, {2: 4, 0: 1}), ("run", "more")),
+    (slack_of, (3, 2), ("run", "number")),
+    (slack_of, (3, 7), ("run", "number")),
+    (gap_of, (1, 8), ("run", "number")),
+    (fills, (make(1, 8, -1, 0, 5, 7, 8),), ("piece",)),
+    (fills, (make(1, 8, -1, 0, 5, 8, 8),), ("piece",)),
 )
 
 NAMES = {
@@ -58,6 +66,7 @@ NAMES = {
     ties_of: "shifts", shifts_of: "shifts", are_shifts: "shifts", is_ring: "shifts",
     span_of: "spans", most_of: "spans", shows_most: "spans",
     shifted: "ways", is_right: "ways", way_of: "ways", own_times: "ways",
+    done_anew: "anew", slack_of: "anew", gap_of: "gaps", fills: "gaps",
 }
 
 
@@ -88,6 +97,10 @@ class Every(unittest.TestCase):
             ("shifts", [0, 1, 2, 5, 6]), True, False, False, False, (-3, 5), (None, None), (5, [0, 1, 2, 5, 6]), None,
             True, False, sorted(GOOD), True, False, [(0, -5, 0), (4, 0, 3), (2, 3, 4), (4, 4, 9), (0, 9, 12)],
             {0: 8, 2: 1, 4: 8},
+            [
+                make(3, 0, -1, 2, 0, -5, 17), make(3, 2, 4, 1, 1, 3, 8, True), make(3, 4, 0, 1, 0, 0, 13, True),
+                make(3, 7, 0, 5, 0, 16, 94),
+            ], 0, None, (None, 7, 8), True, False,
         ])
 
     def test_in_whatever_order_and_however_often(self):
@@ -155,7 +168,7 @@ class Every(unittest.TestCase):
             self.assertEqual(certain(function, function(GOOD, *more)), alone[at])
 
     def test_truths_are_truths(self):
-        for function in (is_whole_run, are_shifts, is_ring, shows_most, is_right):
+        for function in (is_whole_run, are_shifts, is_ring, shows_most, is_right, fills):
             for other, more, _ in CALLS:
                 if other is function:
                     self.assertIs(type(function(GOOD, *more)), bool)

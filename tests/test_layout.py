@@ -30,6 +30,14 @@ FUNCTIONS = (
     ("ways", "is_right", ["heap", "run"]),
     ("ways", "way_of", ["heap", "run"]),
     ("ways", "own_times", ["heap", "run"]),
+    ("anew", "done_anew", ["heap", "run", "more"]),
+    ("anew", "slack_of", ["heap", "run", "number"]),
+    ("gaps", "gap_of", ["heap", "run", "number"]),
+    ("gaps", "fills", ["heap", "piece"]),
+    ("parts", "place_bounds", ["kept", "many", "low", "high", "total", "place"]),
+    ("parts", "place_dealing", ["kept", "many", "low", "high", "total", "place", "greatest"]),
+    ("parts", "over_bounds", ["kept", "many", "low", "high", "total", "number"]),
+    ("parts", "over_dealing", ["kept", "many", "low", "high", "total", "number", "greatest"]),
 )
 
 
@@ -49,7 +57,11 @@ class Interface(unittest.TestCase):
         for module, name, arguments in FUNCTIONS:
             function = getattr(importlib.import_module(f"latewood.{module}"), name)
             self.assertEqual(function.__module__, f"latewood.{module}")
-            self.assertEqual(list(inspect.signature(function).parameters), arguments)
+            signature = inspect.signature(function).parameters
+            self.assertEqual(list(signature), arguments)
+            for argument in arguments:
+                default = False if argument == "greatest" else inspect.Parameter.empty
+                self.assertIs(signature[argument].default, default)
 
 
 class Files(unittest.TestCase):

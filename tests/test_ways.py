@@ -9,16 +9,11 @@ from latewood.ways import is_right, own_times, shifted, way_of
 from latewood.woods import is_whole_run
 
 from helpers import (
-    FAR_NUMBERS, NO_NUMBERS, asked_pairs, askers_of, asking, clocked_heap, counted, make, moved, nested, retold,
-    right_run, whole_by_words, within_by_words,
+    FAR_NUMBERS, NO_NUMBERS, asked_pairs, askers_of, asking, beside, clocked_heap, counted, make, moved, nested, piece,
+    retold, right_run, whole_by_words, within_by_words,
 )
 
 LONG = 10 ** 30 - 1
-
-
-def piece(number, asker, begin, end, joined=True, run=0):
-    """A piece that is joined unless it is a top or it is said; the house hangs on the run, the count is the number."""
-    return make(run, number, asker, run % 8, number, begin, end, joined and asker != -1)
 
 
 def right_by_words(heap, run):
@@ -35,11 +30,6 @@ def way_by_words(pieces, whose, till):
     last = sorted(kids, key=lambda one: (one[6], one[5], one[1]))[-1]
     own = [(whose[1], last[6], till)] if last[6] < till else []
     return way_by_words(pieces, whose, last[5]) + way_by_words(pieces, last, last[6]) + own
-
-
-def beside(run=1):
-    """A run that isn't right, with the same numbers as others."""
-    return [piece(0, -1, 3, 4, run=run), piece(1, 0, -9, 99, run=run), piece(2, 50, 0, 7, run=run)]
 
 
 class Shifted(unittest.TestCase):
