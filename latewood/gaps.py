@@ -1,6 +1,6 @@
 """Gaps of runs: the bounds of whoever fills one, all by one clock."""
 
-from latewood.errors import NoGap, NoRun, NotOne, NoWood
+from latewood.errors import NoGap, NoRun, NoWood, NotOne
 from latewood.heaps import cleared
 from latewood.pieces import ASKER, BEGIN, END, JOINED, NO_ASKER, NUMBER, RUN, held_till, is_clash, is_whole
 from latewood.woods import pieces_of, tops_of, wood_of

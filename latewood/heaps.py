@@ -3,6 +3,9 @@
 from latewood.errors import Clash
 from latewood.pieces import COUNT, HOUSE, RUN, is_clash
 
+# How many unlike pieces there are at most.
+MOST_PIECES = 60
+
 
 def cleared(heap):
     """Tell the unlike pieces of a heap, a rising list, or refuse it with Clash."""

@@ -213,3 +213,20 @@ def whole_by_words(askers):
     ways = [up_by_words(askers, number) for number in askers]
     tops = {way[-1] for way, _ in ways}
     return not any(ring for _, ring in ways) and len(tops) == 1 and tops <= set(askers)
+
+
+def whole_run(chance, run=0, many=8, houses=2, joined=0.5):
+    """A whole run, few of whose pieces are unlike in house and joined; times are all noughts."""
+    numbers = chance.sample(range(100), many)
+    pieces = [make(run, numbers[0], house=chance.randrange(houses))]
+    for at in range(1, many):
+        asker = numbers[chance.randrange(at)]
+        pieces.append(make(run, numbers[at], asker, chance.randrange(houses), joined=chance.random() < joined))
+    return pieces
+
+
+def renumbered(chance, pieces, run):
+    """The same pieces with other numbers, as another run."""
+    numbers = dict(zip(sorted(piece[1] for piece in pieces), chance.sample(range(100), len(pieces))))
+    numbers[-1] = -1
+    return [(run, numbers[piece[1]], numbers[piece[2]]) + piece[3:] for piece in pieces]

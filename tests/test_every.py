@@ -1,4 +1,4 @@
-"""Points 2, 3 and 5, of each function of woods, shifts, spans, ways, anew and gaps."""
+"""Points 2, 3 and 5, of each function that is handed a heap, and of a keeper that is told its pieces."""
 
 import copy
 import random
@@ -7,6 +7,9 @@ import unittest
 from latewood.anew import done_anew, slack_of
 from latewood.errors import Clash, WoodError
 from latewood.gaps import fills, gap_of
+from latewood.heaps import cleared, holes_of, houses_of, runs_of
+from latewood.keeper import Keeper
+from latewood.shapes import are_pairs, shape_of, shapes_held
 from latewood.shifts import are_shifts, is_ring, shifts_of, ties_of
 from latewood.spans import most_of, shows_most, span_of
 from latewood.ways import is_right, own_times, shifted, way_of
@@ -59,6 +62,14 @@ CALLS = (
     (gap_of, (1, 8), ("run", "number")),
     (fills, (make(1, 8, -1, 0, 5, 7, 8),), ("piece",)),
     (fills, (make(1, 8, -1, 0, 5, 8, 8),), ("piece",)),
+    (cleared, (), ()),
+    (runs_of, (), ()),
+    (houses_of, (), ()),
+    (holes_of, (), ()),
+    (shape_of, (3,), ("run",)),
+    (shapes_held, (3, 3), ("one", "other")),
+    (are_pairs, (3, 3, [(0, 0), (2, 2), (4, 4), (7, 7)]), ("one", "other", "thing")),
+    (are_pairs, (3, 3, [[0]]), ("one", "other", "thing")),
 )
 
 NAMES = {
@@ -67,6 +78,15 @@ NAMES = {
     span_of: "spans", most_of: "spans", shows_most: "spans",
     shifted: "ways", is_right: "ways", way_of: "ways", own_times: "ways",
     done_anew: "anew", slack_of: "anew", gap_of: "gaps", fills: "gaps",
+    cleared: "heaps", runs_of: "heaps", houses_of: "heaps", holes_of: "heaps",
+    shape_of: "shapes", shapes_held: "shapes", are_pairs: "shapes",
+}
+
+
+# Which of them a keeper tells of its pieces, by which method.
+METHODS = {
+    cleared: "heap_now", runs_of: "runs_now", holes_of: "holes_now", wood_of: "wood_now", shifts_of: "shifts_now",
+    span_of: "span_now", shape_of: "shape_now", way_of: "way_now", slack_of: "slack_now",
 }
 
 
@@ -101,6 +121,8 @@ class Every(unittest.TestCase):
                 make(3, 0, -1, 2, 0, -5, 17), make(3, 2, 4, 1, 1, 3, 8, True), make(3, 4, 0, 1, 0, 0, 13, True),
                 make(3, 7, 0, 5, 0, 16, 94),
             ], 0, None, (None, 7, 8), True, False,
+            sorted(GOOD), [1, 3, 9], [0, 1, 2, 5, 6], [(6, 0), (6, 1), (6, 2)], "2u(1j(1j),5u)",
+            ("alike", [(0, 0), (2, 2), (4, 4), (7, 7)]), True, False,
         ])
 
     def test_in_whatever_order_and_however_often(self):
@@ -168,10 +190,59 @@ class Every(unittest.TestCase):
             self.assertEqual(certain(function, function(GOOD, *more)), alone[at])
 
     def test_truths_are_truths(self):
-        for function in (is_whole_run, are_shifts, is_ring, shows_most, is_right, fills):
+        for function in (is_whole_run, are_shifts, is_ring, shows_most, is_right, fills, are_pairs):
             for other, more, _ in CALLS:
                 if other is function:
                     self.assertIs(type(function(GOOD, *more)), bool)
+
+
+class ByKeeper(unittest.TestCase):
+
+    def keeper_of(self, heap):
+        keeper = Keeper()
+        for one in heap:
+            keeper.tell(one)
+        return keeper
+
+    def tells_the_same(self, keeper):
+        for function, more, names in CALLS:
+            if function in METHODS:
+                ask = getattr(keeper, METHODS[function])
+                expected = certain(function, function(GOOD, *more))
+                self.assertEqual(certain(function, ask(*more)), expected)
+                self.assertEqual(certain(function, ask(**dict(zip(names, more)))), expected)
+
+    def test_told_in_whatever_order_and_however_often(self):
+        chance = random.Random(205)
+        keepers = [self.keeper_of(retold(chance, GOOD)) for _ in range(12)]
+        for keeper in keepers:
+            self.tells_the_same(keeper)
+            self.assertEqual(keeper, keepers[0])
+            self.assertEqual(len(keeper), 8)
+
+    def test_however_they_came(self):
+        chance = random.Random(206)
+        for _ in range(12):
+            told = retold(chance, GOOD)
+            at = chance.randrange(len(told))
+            keeper = self.keeper_of(told[:at] + [make(77, 0, house=7)])
+            keeper.back()
+            keeper.pour(self.keeper_of(told[at:]))
+            self.tells_the_same(keeper)
+            again = keeper.copy()
+            keeper.back()
+            self.tells_the_same(again)
+            again.tell(make(77, 0, house=7))
+            self.assertNotEqual(again, self.keeper_of(GOOD))
+            again.back()
+            self.tells_the_same(again)
+
+    def test_what_is_told_is_the_askers_own(self):
+        keeper = self.keeper_of(GOOD)
+        for function, more, _ in CALLS:
+            if function in METHODS:
+                spoil(getattr(keeper, METHODS[function])(*more))
+                self.tells_the_same(keeper)
 
 
 class Clashing(unittest.TestCase):

@@ -38,6 +38,35 @@ FUNCTIONS = (
     ("parts", "place_dealing", ["kept", "many", "low", "high", "total", "place", "greatest"]),
     ("parts", "over_bounds", ["kept", "many", "low", "high", "total", "number"]),
     ("parts", "over_dealing", ["kept", "many", "low", "high", "total", "number", "greatest"]),
+    ("shapes", "shape_of", ["heap", "run"]),
+    ("shapes", "shapes_held", ["heap", "one", "other"]),
+    ("shapes", "are_pairs", ["heap", "one", "other", "thing"]),
+    ("texts", "piece_text", ["piece"]),
+    ("texts", "heap_text", ["heap"]),
+    ("texts", "read_piece", ["text"]),
+    ("texts", "read_heap", ["text"]),
+)
+
+METHODS = (
+    ("keeper", "Keeper", "__init__", []),
+    ("keeper", "Keeper", "tell", ["piece"]),
+    ("keeper", "Keeper", "pour", ["other"]),
+    ("keeper", "Keeper", "back", ["many"]),
+    ("keeper", "Keeper", "copy", []),
+    ("keeper", "Keeper", "__len__", []),
+    ("keeper", "Keeper", "__eq__", ["other"]),
+    ("keeper", "Keeper", "heap_now", []),
+    ("keeper", "Keeper", "runs_now", []),
+    ("keeper", "Keeper", "holes_now", []),
+    ("keeper", "Keeper", "wood_now", ["run"]),
+    ("keeper", "Keeper", "shifts_now", []),
+    ("keeper", "Keeper", "span_now", ["one", "other"]),
+    ("keeper", "Keeper", "shape_now", ["run"]),
+    ("keeper", "Keeper", "way_now", ["run"]),
+    ("keeper", "Keeper", "slack_now", ["run", "number"]),
+    ("keeper", "Keeper", "tellings_now", []),
+    ("desk", "Desk", "__init__", []),
+    ("desk", "Desk", "say", ["row"]),
 )
 
 
@@ -62,6 +91,16 @@ class Interface(unittest.TestCase):
             for argument in arguments:
                 default = False if argument == "greatest" else inspect.Parameter.empty
                 self.assertIs(signature[argument].default, default)
+
+    def test_methods_stand_in_their_classes(self):
+        for module, name, method, arguments in METHODS:
+            found = getattr(importlib.import_module(f"latewood.{module}"), name)
+            self.assertEqual(found.__module__, f"latewood.{module}")
+            signature = inspect.signature(vars(found)[method]).parameters
+            self.assertEqual(list(signature)[1:], arguments)
+            for argument in arguments:
+                default = 1 if argument == "many" else inspect.Parameter.empty
+                self.assertEqual(signature[argument].default, default)
 
 
 class Files(unittest.TestCase):

@@ -1,7 +1,6 @@
 """Point 18: bounds for all values where a part alone was kept, and dealings by which they are come to."""
 
 import copy
-import inspect
 import random
 import unittest
 from itertools import combinations_with_replacement
@@ -252,10 +251,6 @@ class Parts(unittest.TestCase):
             self.assertEqual(value_at([1, 4], dealing, 0), 1 if greatest else 0)
             dealing = over_dealing(greatest=greatest, number=2, **values)
             self.assertEqual(over([1, 4], dealing, 2), 3 if greatest else 2)
-
-    def test_the_default_is_the_least(self):
-        for function in (place_dealing, over_dealing):
-            self.assertIs(inspect.signature(function).parameters["greatest"].default, False)
 
 
 class Refusals(unittest.TestCase):
